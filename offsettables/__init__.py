@@ -1,0 +1,1 @@
+"""Tables of offsets: measures in feet, inches, eighths."""

@@ -12,3 +12,10 @@ class Table:
         self.places = places
         self.heights = heights
         self.half_breadths = half_breadths
+
+    # An index below 0 would count from a list's end: it's no level and no station.
+    def has_level_and_station(self, level, station):
+        return 0 <= level < len(self.heights) and 0 <= station < len(self.places)
+
+    def number_of(self, level, station):
+        return level * len(self.places) + station

@@ -1,13 +1,13 @@
 """What is wrong with the lists that a table is to be made of: a kind and a number, 0 and 0 if nothing is."""
 
 from offsettables.layout import FEWEST, MOST_LEVELS, MOST_STATIONS
-from offsettables.measures import LARGEST
+from offsettables.measures import LARGEST, is_measure
 
 
 # These two answer the row's length where nothing is wrong: so the lesser of both is the first fault.
 def bounds_fault(row, least):
     for k, number in enumerate(row):
-        if number < least or number > LARGEST:
+        if not is_measure(number, least):
             return k
     return len(row)
 

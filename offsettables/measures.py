@@ -6,6 +6,11 @@ INCH = 16
 EIGHTH = 2
 
 
+# least: some measures may be below 0, others may not.
+def is_measure(number, least):
+    return least <= number <= LARGEST
+
+
 def written(measure):
     size = abs(measure)
     sign = "-" if measure < 0 else ""

@@ -1,10 +1,10 @@
-"""A table from its text, or the text's first fault.
+"""A table from its text, or the text's first fault; a measure from its writing.
 
 Each take_... goes over what it takes and raises the first fault in it.
 """
 
 from offsettables.layout import FEWEST, MOST_LEVELS, MOST_STATIONS, Table
-from offsettables.measures import EIGHTH, FOOT, INCH, LARGEST
+from offsettables.measures import EIGHTH, FOOT, INCH, LARGEST, is_measure
 
 SHAPE = 1
 NO_MEASURE = 2
@@ -112,10 +112,8 @@ def take_measure(cursor, least):
     if feet > MOST_FEET or inches > MOST_INCHES or eighths > MOST_EIGHTHS:
         raise Fault(NO_MEASURE, first)
     size = feet * FOOT + inches * INCH + eighths * EIGHTH + more
-    if size > LARGEST or (below and size == 0):
-        raise Fault(NO_MEASURE, first)
     measure = -size if below else size
-    if measure < least:
+    if (below and size == 0) or not is_measure(measure, least):
         raise Fault(NO_MEASURE, first)
     return measure
 
@@ -180,3 +178,12 @@ def table_of(text):
     if len(heights) < FEWEST:
         raise Fault(COUNT, cursor.place)
     return Table(places, heights, half_breadths)
+
+
+# A measure is whole only where a byte stands behind it, so one is put there that no measure goes on with.
+def measure_of(text):
+    cursor = Cursor(text + [LINE_END])
+    measure = take_measure(cursor, -LARGEST)
+    if cursor.place < len(text):
+        raise Fault(SHAPE, cursor.place)
+    return measure

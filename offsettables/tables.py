@@ -2,16 +2,23 @@
 
 from offsettables.layout import Table
 from offsettables.making import lists_fault
-from offsettables.reading import Fault, table_of
-from offsettables.writing import text_of
+from offsettables.measures import LARGEST, is_measure
+from offsettables.reading import Fault, measure_of, table_of
+from offsettables.writing import text_of, writing_of
 
 READ = 1
 MAKE = 2
 TEXT = 3
 NUMBERS = 4
+AT = 5
+SET = 6
+WRITE = 7
+VALUE = 8
 
 OUT_OF_BOUNDS = -1
+NOT_THERE = -4
 NO_TABLE = -5
+NO_WRITING = -6
 
 MOST_BYTES = 20000
 
@@ -77,6 +84,42 @@ def numbers_answer(keeper):
     return [0] + counts + table.places + table.heights + table.half_breadths
 
 
+def at_answer(keeper, level, station):
+    table = keeper.table
+    if table is None:
+        return [NO_TABLE]
+    if not table.has_level_and_station(level, station):
+        return [NOT_THERE]
+    half_breadth = table.half_breadths[table.number_of(level, station)]
+    return [0, table.places[station], table.heights[level], half_breadth]
+
+
+def set_answer(keeper, level, station, half_breadth):
+    table = keeper.table
+    if table is None:
+        return [NO_TABLE]
+    if not is_measure(half_breadth, 0):
+        return [OUT_OF_BOUNDS]
+    if not table.has_level_and_station(level, station):
+        return [NOT_THERE]
+    table.half_breadths[table.number_of(level, station)] = half_breadth
+    return [0]
+
+
+def write_answer(measure):
+    if not is_measure(measure, -LARGEST):
+        return [OUT_OF_BOUNDS]
+    return [0] + writing_of(measure)
+
+
+def value_answer(text):
+    try:
+        measure = measure_of(text)
+    except Fault:
+        return [NO_WRITING]
+    return [0, measure]
+
+
 def next_answer(keeper, handed):
     call = handed.take_number()
     if call == READ:
@@ -90,6 +133,19 @@ def next_answer(keeper, handed):
         return text_answer(keeper)
     if call == NUMBERS:
         return numbers_answer(keeper)
+    if call == AT:
+        level = handed.take_number()
+        station = handed.take_number()
+        return at_answer(keeper, level, station)
+    if call == SET:
+        level = handed.take_number()
+        station = handed.take_number()
+        half_breadth = handed.take_number()
+        return set_answer(keeper, level, station, half_breadth)
+    if call == WRITE:
+        return write_answer(handed.take_number())
+    if call == VALUE:
+        return value_answer(handed.take_row())
     raise UnknownCall(str(call))
 
 

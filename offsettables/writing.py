@@ -1,6 +1,14 @@
-"""A table's text."""
+"""The bytes of a measure's writing and of a table's text."""
 
 from offsettables.measures import written
+
+
+def bytes_of(signs):
+    return [ord(sign) for sign in signs]
+
+
+def writing_of(measure):
+    return bytes_of(written(measure))
 
 
 # A blank stands before each measure, the first one too, so it's no join with blanks between.
@@ -9,10 +17,10 @@ def row_of(measures):
 
 
 def level_line(table, level):
-    stations = len(table.places)
-    begin = level * stations
+    begin = table.number_of(level, 0)
+    behind = table.number_of(level + 1, 0)
     height = written(table.heights[level])
-    row = row_of(table.half_breadths[begin:begin + stations])
+    row = row_of(table.half_breadths[begin:behind])
     return f"level {height}:{row}\n"
 
 
@@ -21,4 +29,4 @@ def text_of(table):
     lines = [f"stations{places}\n"]
     for level in range(len(table.heights)):
         lines.append(level_line(table, level))
-    return [ord(sign) for sign in "".join(lines)]
+    return bytes_of("".join(lines))

@@ -2,7 +2,7 @@
 
 from offsettables.tables import answers
 
-READ, MAKE, TEXT, NUMBERS = 1, 2, 3, 4
+READ, MAKE, TEXT, NUMBERS, AT, SET, WRITE, VALUE = 1, 2, 3, 4, 5, 6, 7, 8
 
 LARGEST = 1048575
 LOWEST_HANDED = -2147483648
@@ -35,15 +35,31 @@ def numbers():
     return [NUMBERS]
 
 
+def at(level, station):
+    return [AT, level, station]
+
+
+def set_to(level, station, half_breadth):
+    return [SET, level, station, half_breadth]
+
+
+def write(measure):
+    return [WRITE, measure]
+
+
+def value(text):
+    return [VALUE] + row(text)
+
+
 def apart(given):
     """The answers, one list a call."""
     parted = []
-    at = 0
-    while at < len(given):
-        count = given[at]
-        parted.append(given[at + 1:at + 1 + count])
-        at += 1 + count
-    if at != len(given):
+    place = 0
+    while place < len(given):
+        count = given[place]
+        parted.append(given[place + 1:place + 1 + count])
+        place += 1 + count
+    if place != len(given):
         raise AssertionError(f"counts and answers don't fit: {given}")
     return parted
 

@@ -4,7 +4,20 @@ import unittest
 
 import offsettables.tables
 from offsettables.tables import answers
-from tests.calling import SMALL, SMALL_NUMBERS, ask, make, numbers, plain_lists, read, text, written_table
+from tests.calling import (SMALL, SMALL_NUMBERS, apart, ask, at, make, numbers, plain_lists, read, set_to, text, value,
+                           write, written_table)
+
+# All eight calls, and what each answers, with its count before it.
+EIGHT = [
+    (read(SMALL), [3, 0, 0, 0]),
+    (at(1, 0), [4, 0, 0, 0, 0]),
+    (set_to(1, 0, 33), [1, 0]),
+    (numbers(), [11] + SMALL_NUMBERS[:9] + [33, 651]),
+    (value(b"-3-4-5+"), [2, 0, -651]),
+    (write(-651), [8, 0] + list(b"-3-4-5+")),
+    (make([0, 1], [0, 1], [5, 6, 7, 8]), [3, 0, 0, 0]),
+    (text(), [76, 0] + list(b"stations 0-0-0 0-0-0+\nlevel 0-0-0: 0-0-2+ 0-0-3\nlevel 0-0-0+: 0-0-3+ 0-0-4\n")),
+]
 
 
 class Answers(unittest.TestCase):
@@ -17,6 +30,46 @@ class Answers(unittest.TestCase):
         self.assertEqual(answers([2, 0, 0, 0]), [3, 0, 2, 0])
         self.assertEqual(answers([2, 2, 0, 1, 2, 0, 1, 4, 5, 6, 7, 8, 4]),
                          [3, 0, 0, 0, 11, 0, 2, 2, 0, 1, 0, 1, 5, 6, 7, 8])
+
+    def test_the_count_before_the_answers_of_at_set_write_value(self):
+        self.assertEqual(answers([5, 0, 0]), [1, -5])
+        self.assertEqual(answers([6, 0, 0, 0]), [1, -5])
+        self.assertEqual(answers([7, 0]), [6, 0, 48, 45, 48, 45, 48])
+        self.assertEqual(answers([7, 1048576]), [1, -1])
+        self.assertEqual(answers([8, 5, 48, 45, 48, 45, 49]), [2, 0, 2])
+        self.assertEqual(answers([8, 0]), [1, -6])
+        self.assertEqual(answers([2, 2, 0, 1, 2, 0, 1, 4, 5, 6, 7, 8, 5, 1, 0, 6, 1, 0, 9, 5, 1, 0, 5, 2, 0, 6, 0, 0, -1]),
+                         [3, 0, 0, 0, 4, 0, 0, 1, 7, 1, 0, 4, 0, 0, 1, 9, 1, -4, 1, -1])
+
+    def test_all_eight_calls(self):
+        calls = [number for call, told in EIGHT for number in call]
+        given = [number for call, told in EIGHT for number in told]
+        before = list(calls)
+        self.assertEqual(answers(calls), given)
+        self.assertEqual(calls, before)
+        self.assertEqual(answers(calls), given)
+        self.assertEqual(calls, before)
+
+    def test_all_eight_calls_without_a_table(self):
+        told = ask(*[call for call, told in EIGHT if call[0] not in (1, 2)])
+        self.assertEqual(told, [[-5], [-5], [-5], [0, -651], [0] + list(b"-3-4-5+"), [-5]])
+
+    def test_300_of_all_eight_calls(self):
+        turns = [EIGHT[k % 8] for k in range(300)]
+        calls = [number for call, told in turns for number in call]
+        before = list(calls)
+        self.assertLessEqual(len(calls), 30000)
+        given = answers(calls)
+        self.assertEqual(given, [number for call, told in turns for number in told])
+        self.assertEqual(len(apart(given)), 300)
+        self.assertEqual(calls, before)
+
+    def test_what_is_set_is_not_set_the_next_time(self):
+        calls = make(*plain_lists(3, 3)) + at(2, 2)
+        first = answers(calls)
+        answers(make(*plain_lists(3, 3)) + set_to(2, 2, 4321) + at(2, 2))
+        self.assertEqual(answers(calls), first)
+        self.assertEqual(answers(at(0, 0) + set_to(0, 0, 0)), [1, -5, 1, -5])
 
     def test_several_calls(self):
         calls = text() + read(SMALL) + numbers() + text() + make([], [], []) + read([]) + text()
@@ -61,7 +114,7 @@ class Answers(unittest.TestCase):
                 answers([4, number])
 
     def test_whole_numbers_in_a_list(self):
-        given = offsettables.tables.answers(read(SMALL) + text() + numbers() + make([], [], []))
+        given = offsettables.tables.answers([number for call, told in EIGHT for number in call] + make([], [], []))
         self.assertIs(type(given), list)
         self.assertEqual({type(number) for number in given}, {int})
 
